@@ -15,12 +15,12 @@ MOST_SIGHTS = 1024
 
 
 class Runner:
-    def __init__(self, wave, kind):
+    def __init__(self, wave, kind, mats):
         self.wave = wave
         self.kind = kind
         self.struck = False
-        # Keyed by mat and time, so that a sight told twice is one.
-        self.sights = {}
+        # For each mat, the start too, the times there as keys, so that a sight told twice is one.
+        self.sights = [{} for mat in range(mats + 1)]
 
 
 class Race:
@@ -66,7 +66,7 @@ def add_runner(race, wave, kind):
     number = len(race.runners)
     if number >= MOST_RUNNERS:
         return NO_ROOM
-    race.runners.append(Runner(wave, kind))
+    race.runners.append(Runner(wave, kind, len(race.least)))
     return number
 
 
@@ -75,13 +75,13 @@ def add_sight(race, who, mat, time):
         return NO_RUNNER
     if mat > len(race.least) or time > LAST_TIME:
         return OUT_OF_BOUNDS
-    runner = race.runners[who]
+    times = race.runners[who].sights[mat]
     # A sight told before is no refusal, so it is asked ahead of the bound.
-    if (mat, time) in runner.sights:
+    if time in times:
         return 0
     if race.sight_count >= MOST_SIGHTS:
         return NO_ROOM
-    runner.sights[(mat, time)] = True
+    times[time] = True
     race.sight_count = race.sight_count + 1
     return 1
 

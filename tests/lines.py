@@ -25,6 +25,22 @@ def strike(who, on):
     return [4, who, on]
 
 
+def of(who):
+    return [5, who]
+
+
+def split(who, mat):
+    return [6, who, mat]
+
+
+def rank(who):
+    return [7, who]
+
+
+def list_of(kind):
+    return [8, kind]
+
+
 def joined(line):
     return [number for call in line for number in call]
 
@@ -41,9 +57,22 @@ def split_answers(given):
     return told
 
 
-def first_numbers(line):
-    """Answers a line whose calls each answer one number alone."""
+def line_answers(line):
+    """The answers to a line, each a list."""
     told = split_answers(answers(joined(line)))
     assert len(told) == len(line), told
+    return told
+
+
+def first_numbers(line):
+    """Answers a line whose calls each answer one number alone."""
+    told = line_answers(line)
     assert all(len(answer) == 1 for answer in told), told
     return [answer[0] for answer in told]
+
+
+def asked(line, asks):
+    """The answers to asks behind a line of which no call is refused."""
+    told = line_answers(line + asks)
+    assert all(answer[0] >= 0 for answer in told[:len(line)]), told
+    return told[len(line):]

@@ -63,10 +63,10 @@ class Seen(unittest.TestCase):
         add_runner(race, 0, 0)
         for who, mat, time in ((1, 0, 5), (0, 2, 5), (0, 0, 86400001)):
             self.assertLess(add_sight(race, who, mat, time), 0)
-        self.assertEqual((race.runners[0].sights, race.sight_count), ({}, 0))
+        self.assertEqual((race.runners[0].sights, race.sight_count), ([{}, {}], 0))
         add_sight(race, 0, 1, 5)
         add_sight(race, 0, 1, 5)
-        self.assertEqual((list(race.runners[0].sights), race.sight_count), ([(1, 5)], 1))
+        self.assertEqual((race.runners[0].sights, race.sight_count), ([{}, {5: True}], 1))
 
     def test_who_is_struck_out_is_seen_too(self):
         line = [strike(0, 1), seen(0, 1, 5), strike(0, 0), seen(0, 1, 5)]

@@ -101,7 +101,7 @@ class Kept(unittest.TestCase):
         self.assertEqual(start_race(race, 0, [5]), 0)
         self.assertEqual((race.lack, race.least, race.guns, race.runners, race.sight_count), (0, [5], {}, [], 0))
         add_runner(race, 2, 4)
-        self.assertEqual((race.runners[0].struck, race.runners[0].sights), (False, {}))
+        self.assertEqual((race.runners[0].struck, race.runners[0].sights), (False, [{}, {}]))
 
 
 if __name__ == "__main__":
